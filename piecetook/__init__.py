@@ -1,0 +1,1 @@
+"""What one piece took, whole, with all that was used for it."""
