@@ -1,4 +1,4 @@
-"""The package's files against those rows of the language's rules that can be read off their text."""
+"""The package's files against a part of the language's rules: not every rule is looked at here."""
 
 import ast
 import builtins
