@@ -4,9 +4,12 @@ from piecetook.workshop import Workshop
 
 BEGIN = 0
 TELL = 1
+FORGET = 2
+TOOK = 3
+RUNS = 4
 
 # By a call's number: how many numbers it has, its own with them, ahead of what is in its row.
-LENGTHS = {0: 1, 1: 5, 2: 2}
+LENGTHS = {0: 1, 1: 5, 2: 2, 3: 2, 4: 3, 5: 3}
 
 
 def end_of_call(calls, start):
@@ -21,7 +24,13 @@ def answer(workshop, call):
         return workshop.begin()
     if call[0] == TELL:
         return workshop.tell(call[1], call[2], call[3], call[5:])
-    return workshop.forget(call[1])
+    if call[0] == FORGET:
+        return workshop.forget(call[1])
+    if call[0] == TOOK:
+        return workshop.took(call[1])
+    if call[0] == RUNS:
+        return workshop.runs(call[1], call[2])
+    return workshop.let_out(call[1], call[2])
 
 
 def answers(calls):

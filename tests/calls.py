@@ -17,6 +17,28 @@ def forget(k):
     return [2, k]
 
 
+def took(k):
+    return [3, k]
+
+
+def runs(k, n=1):
+    return [4, k, n]
+
+
+def all_out(k, n=1):
+    return [5, k, n]
+
+
+def uses_of(used):
+    """The row that tell takes, from a dict of how many pieces of which kinds are used."""
+    return [used.get(kind, 0) for kind in range(8)]
+
+
+def tell_all(makings):
+    """A call of tell for each row of a dict: the kind, then what it makes, lets out and uses (a dict)."""
+    return [tell(k, makes, out, uses_of(used)) for k, (makes, out, used) in makings.items()]
+
+
 def in_one_list(calls):
     numbers = []
     for call in calls:
@@ -50,3 +72,8 @@ def firsts(*calls):
             raise AssertionError(f"{part} is not one number alone")
         numbers.append(part[0])
     return numbers
+
+
+def last_of(*calls):
+    """What the last of the calls answers, where a begin goes ahead of them."""
+    return asked(begin(), *calls)[-1]

@@ -63,6 +63,20 @@ def bound_name(node):
     return None
 
 
+def is_plain(node):
+    if isinstance(node, (ast.List, ast.Tuple)):
+        return all(is_plain(part) for part in node.elts)
+    if isinstance(node, ast.Dict):
+        return all(is_plain(part) for part in node.keys + node.values)
+    if isinstance(node, ast.UnaryOp):
+        return isinstance(node.op, ast.USub) and isinstance(node.operand, ast.Constant)
+    return isinstance(node, ast.Constant)
+
+
+def own_values():
+    return [node.attr for _, node in nodes() if isinstance(node, ast.Attribute) and isinstance(node.ctx, ast.Store)]
+
+
 def own_methods():
     return [part.name for _, node in nodes() if isinstance(node, ast.ClassDef)
             for part in node.body if isinstance(part, ast.FunctionDef)]
@@ -134,6 +148,21 @@ class Code(unittest.TestCase):
         for path, node in nodes():
             if isinstance(node, ast.Call) and isinstance(node.func, ast.Attribute):
                 self.assertIn(node.func.attr, known, f"{path}:{node.lineno}")
+
+    def test_no_name_is_a_method_and_a_value(self):
+        self.assertEqual(sorted(set(own_methods()) & set(own_values())), [])
+
+    def test_plain_values_at_the_top(self):
+        for path, tree in trees().items():
+            for node in tree.body:
+                if isinstance(node, ast.Assign):
+                    self.assertTrue(is_plain(node.value), f"{path}:{node.lineno}")
+
+    def test_comprehensions_have_one_for_and_one_if_at_most(self):
+        for path, node in nodes():
+            if isinstance(node, ast.ListComp):
+                self.assertEqual(len(node.generators), 1, f"{path}:{node.lineno}")
+                self.assertLessEqual(len(node.generators[0].ifs), 1, f"{path}:{node.lineno}")
 
     def test_each_name_once_at_the_top(self):
         for path, tree in trees().items():

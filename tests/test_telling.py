@@ -2,8 +2,8 @@
 
 import unittest
 
-from piecetook.workshop import Workshop
-from tests.calls import LARGEST, begin, firsts, forget, tell
+from tests.calls import LARGEST, all_out, asked, begin, firsts, forget, runs, tell, took
+from tests.model import expected
 
 NOTHING = [0] * 8
 
@@ -40,6 +40,10 @@ for length in list(range(8)) + list(range(9, 21)):
     REFUSED[f"uses of {length} numbers"] = (3, 1, 5, [0] * length)
 
 WRONG_KINDS = (8, 9, 255, 256, LARGEST)
+
+# Every kind uses all of them: whatever is told anew is seen in what's asked of any.
+ALL_TOLD = [tell(k, 20 + k, 10 + k, [1 + (k + kind) % 2 for kind in range(8)]) for k in range(8)]
+ALL_ASKED = [call for k in range(8) for call in (took(k), runs(k, 3), all_out(k, 3))]
 
 
 class Begin(unittest.TestCase):
@@ -80,16 +84,18 @@ class Tell(unittest.TestCase):
     def test_keeps_what_is_told(self):
         for name, (k, makes, out, uses) in ALLOWED.items():
             with self.subTest(name):
-                workshop = Workshop()
-                self.assertEqual(workshop.tell(k, makes, out, uses), [0])
-                self.assertEqual(workshop.told, {k: (makes, out, tuple(uses))})
+                others = [tell(other, other + 1, other + 20) for other in range(8) if other != k]
+                calls = [begin()] + others + [tell(k, makes, out, uses), took(k), runs(k), all_out(k)]
+                self.assertEqual(asked(*calls), expected(calls))
 
     def test_again_takes_the_place_of_what_was_told(self):
-        workshop = Workshop()
-        workshop.tell(5, 2, 30, [1] * 8)
-        workshop.tell(6, 3, 40, [2] * 8)
-        self.assertEqual(workshop.tell(5, 7, 80, [9] * 8), [0])
-        self.assertEqual(workshop.told, {5: (7, 80, (9,) * 8), 6: (3, 40, (2,) * 8)})
+        calls = [begin(), tell(5, 2, 30), took(5), tell(5, 7, 80), took(5), runs(5), tell(5, 1, 9, [0, 1] + [0] * 6)]
+        answered = [[0], [0], [0, 15, 1], [0], [0, 80, 7], [1, 5, 1, 7], [0], [-61]]
+        self.assertEqual(asked(*calls, took(5)), answered)
+
+    def test_again_leaves_the_other_kinds(self):
+        calls = [begin(), tell(5, 2, 30), tell(6, 3, 40), tell(5, 7, 80), took(6), runs(6)]
+        self.assertEqual(asked(*calls)[4:], [[0, 40, 3], [1, 6, 1, 3]])
 
     def test_told_twice_is_forgotten_once(self):
         self.assertEqual(firsts(begin(), tell(5), tell(5, 9), forget(5), forget(5)), [0, 0, 0, 0, -2])
@@ -108,12 +114,10 @@ class Tell(unittest.TestCase):
     def test_refused_leaves_what_was_told(self):
         for name, making in REFUSED.items():
             with self.subTest(name):
-                workshop = Workshop()
-                for k in range(8):
-                    workshop.tell(k, k + 1, k + 10, [k] * 8)
-                before = dict(workshop.told)
-                self.assertEqual(workshop.tell(*making), [-22])
-                self.assertEqual(workshop.told, before)
+                before = asked(begin(), *ALL_TOLD, *ALL_ASKED)
+                behind = asked(begin(), *ALL_TOLD, tell(*making), *ALL_ASKED)
+                self.assertEqual(behind, before[:9] + [[-22]] + before[9:])
+                self.assertGreaterEqual(min(before), [0])
 
 
 class Forget(unittest.TestCase):
@@ -150,20 +154,16 @@ class Forget(unittest.TestCase):
         self.assertEqual(firsts(begin(), tell(6), forget(6), tell(6), forget(6)), [0] * 5)
 
     def test_forgets_its_own_kind_alone(self):
-        workshop = Workshop()
+        told = [tell(k, k + 1, k + 10) for k in range(8)]
         for k in range(8):
-            workshop.tell(k, k + 1, k + 10, [k] * 8)
-        others = dict(workshop.told)
-        others.pop(3)
-        self.assertEqual(workshop.forget(3), [0])
-        self.assertEqual(workshop.told, others)
+            given = asked(begin(), *told, forget(k), *[took(kind) for kind in range(8)])[10:]
+            before = asked(begin(), *told, *[took(kind) for kind in range(8)])[9:]
+            self.assertEqual(given, before[:k] + [[-2]] + before[k + 1:])
 
     def test_refused_changes_nothing(self):
-        workshop = Workshop()
-        workshop.tell(3, 4, 13, [3] * 8)
         for k, refusal in ((2, -2), (4, -2), (8, -22), (LARGEST, -22)):
-            self.assertEqual(workshop.forget(k), [refusal])
-            self.assertEqual(workshop.told, {3: (4, 13, (3,) * 8)})
+            calls = [begin(), tell(3, 4, 13), forget(k), took(3), runs(3, 2), forget(3)]
+            self.assertEqual(asked(*calls), [[0], [0], [refusal], [0, 13, 4], [1, 3, 1, 2], [0]])
 
 
 if __name__ == "__main__":
